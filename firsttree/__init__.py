@@ -1,0 +1,1 @@
+"""A file tree out of a stream of archives."""
