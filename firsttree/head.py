@@ -41,6 +41,30 @@ def digit_of(byte):
     return -1
 
 
+# The way back: the byte of a digit, of the letters the great one.
+def byte_of(digit):
+    if digit < 10:
+        return digit + 48
+    return digit + 55
+
+
+def digits_of(number):
+    row = []
+    while len(row) < DIGITS:
+        row.append(byte_of(number % 16))
+        number //= 16
+    row.reverse()
+    return row
+
+
+# A head whose other numbers are all 0.
+def head_row(serial, mode, names, size, length):
+    row = list(MARK)
+    for number in (serial, mode, 0, 0, names, 0, size, 0, 0, 0, 0, length, 0):
+        row.extend(digits_of(number))
+    return row
+
+
 def number_at(row, which):
     start = len(MARK) + DIGITS * which
     number = 0

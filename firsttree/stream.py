@@ -2,6 +2,7 @@
 
 from firsttree.builder import WRONG_NAME, Builder
 from firsttree.head import HEAD_BYTES, TRAILER, Head, byte_fits, head_fits
+from firsttree.zeros import zeros_behind
 
 WRONG_HEAD_BYTE = 1
 WRONG_HEAD = 2
@@ -111,8 +112,3 @@ class Stream:
         if self.head.size != 0:
             self.builder.do_item(self.head, self.name, tuple(self.part))
         self.begin(DATA_ZEROS, zeros_behind(self.head.size))
-
-
-# How many bytes 0 fill up so many bytes to a multiple of 4.
-def zeros_behind(length):
-    return -length % 4

@@ -25,6 +25,17 @@ class Tree:
             return self.contents[self.holders[path]]
         return self.texts[path]
 
+    # The number of the path's file; 0 if it has none.
+    def file_at(self, path):
+        return self.holders.get(path, 0)
+
+    def ordered_paths(self):
+        return sorted(self.kinds)
+
+    # All paths that have this file, in paths' order.
+    def paths_with(self, number):
+        return sorted([path for path in self.holders if self.holders[path] == number])
+
     def path_count(self):
         return len(self.kinds)
 

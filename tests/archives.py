@@ -57,6 +57,7 @@ def end(mode=0, **rest):
 
 RESET = [1]
 STATE = [3]
+WRITE = [10]
 
 
 def feed(data):
@@ -71,9 +72,27 @@ def size(path):
     return [5, len(path), *path]
 
 
+def read(path, start=0, most=1000000):
+    return [6, start, most, len(path), *path]
+
+
+def same(path, other):
+    return [7, len(path), *path, len(other), *other]
+
+
+def following(path):
+    return [8, len(path), *path]
+
+
+def names(path):
+    return [9, len(path), *path]
+
+
 def ask(*calls):
     """The answers to these calls on one object, a list each."""
-    told = answers([number for call in calls for number in call])
+    handed = [number for call in calls for number in call]
+    assert len(calls) <= 40 and len(handed) <= 8500
+    told = answers(handed)
     parts = []
     while told:
         count = told[0]
@@ -94,3 +113,35 @@ def fault(data):
 def last(stream, *calls):
     """The answers to these calls behind this stream."""
     return ask(feed(stream), *calls)[1:]
+
+
+def written(stream):
+    """The archive that write answers behind this stream."""
+    told = last(stream, WRITE)[0]
+    assert told[0] == 0
+    return bytes(told[1:])
+
+
+def about(paths):
+    """Every question about these paths, and about each two of them."""
+    calls = [call for path in paths for call in (
+        kind(path), size(path), read(path), read(path, 1, 2), following(path), names(path),
+    )]
+    return calls + [same(path, other) for path in paths for other in paths]
+
+
+def lists_of(calls, begun=0):
+    """The calls cut into stretches that each go into one list: 40 calls in all, 8000 numbers in rows."""
+    stretches = [[]]
+    for call in calls:
+        stretch = stretches[-1]
+        if len(stretch) == 32 or begun + sum(map(len, stretch)) + len(call) > 8000:
+            stretches.append([])
+        stretches[-1].append(call)
+    return stretches
+
+
+def ask_behind(before, calls):
+    """The answers to these calls, however many, each behind the calls before."""
+    begun = sum(map(len, before))
+    return [told for stretch in lists_of(calls, begun) for told in ask(*before, *stretch)[len(before):]]

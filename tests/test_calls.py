@@ -1,11 +1,12 @@
-"""The calls reset, feed, state, kind, size, and the list they come in."""
+"""The calls reset, feed, state, kind, size, and the list that all calls come in."""
 
 import contextlib
 import io
 import unittest
 
 from archives import (
-    RESET, STATE, ask, directory, end, feed, file, kind, last, link, shared, size,
+    RESET, STATE, WRITE, ask, directory, end, feed, file, following, kind, last, link, names, read, same, shared, size,
+    written,
 )
 from firsttree.desk import answers
 
@@ -18,10 +19,51 @@ SIZES = {b"d": [-2], b"d/f": [0, 5], b"a": [0, 3], b"b": [0, 3], b"d/l": [0, 4],
 NO_PATHS = [b"", b".", b"..", b"/", b"/d", b"d/", b"d//f", b"d/.", b"d/../d", b"d\0", b"\0", b"TRAILER!!!",
             b"x" * 255, b"x" * 256, b"d/" + b"x" * 998, bytes(1000), b"\xff"]
 
+# Each of the ten calls, some of them twice.
+TEN = (
+    STATE + feed(TREE) + read(b"d/f", 1, 3) + same(b"a", b"b") + following(b"d") + names(b"b") + kind(b"d") + size(b"a")
+    + WRITE + STATE + same(b"", b"a") + RESET + WRITE + feed(b"x") + names(b"a") + following(b"")
+)
+
 
 class TestList(unittest.TestCase):
     def test_empty_list(self):
         self.assertEqual(answers([]), [])
+
+    def test_each_of_the_ten(self):
+        archive = written(TREE)
+        empty = written(b"")
+        self.assertEqual(answers(TEN), [
+            6, 0, 0, 0, 1, 0, 0, 3, 0, 0, len(TREE), 4, 0, 50, 51, 52, 2, 0, 1, 4, 0, 100, 47, 100,
+            5, 0, 1, 97, 1, 98, 2, 0, 2, 2, 0, 3, 1 + len(archive), 0, *archive, 6, 0, 0, len(TREE), 0, 7, 8,
+            2, 0, 0, 1, 0, 1 + len(empty), 0, *empty, 3, 0, 1, 0, 1, -1, 1, -1,
+        ])
+
+    def test_each_alone(self):
+        alone = [
+            ([1], [1, 0]), ([2, 0], [3, 0, 0, 0]), ([2, 1, 0], [3, 0, 0, 1]), ([3], [6, 0, 0, 0, 1, 0, 0]),
+            ([4, 0], [2, 0, 0]), ([5, 0], [1, -1]), ([6, 0, 0, 0], [1, -1]), ([6, 1000000, 1000000, 2, 97, 98], [1, -1]),
+            ([7, 0, 0], [2, 0, 0]), ([7, 1, 97, 0], [2, 0, 0]), ([7, 0, 2, 97, 98], [2, 0, 0]), ([8, 0], [1, -1]),
+            ([9, 0], [1, -1]), ([10], [125, 0, *written(b"")]),
+        ]
+        for calls, told in alone:
+            self.assertEqual(answers(calls), told)
+            self.assertEqual(answers([3] + calls + [1]), [6, 0, 0, 0, 1, 0, 0] + told + [1, 0])
+
+    def test_handed_in_is_unchanged_by_each_of_the_ten(self):
+        calls = list(TEN)
+        first = answers(calls)
+        self.assertEqual(calls, TEN)
+        self.assertEqual(answers(calls), first)
+        self.assertEqual(calls, TEN)
+
+    def test_nothing_is_kept_of_what_is_written(self):
+        other = shared(b"q", b"1") + shared(b"r")
+        fresh = answers(feed(other) + WRITE + names(b"q"))
+        answers(TEN)
+        answers(feed(TREE) + WRITE)
+        self.assertEqual(answers(feed(other) + WRITE + names(b"q")), fresh)
+        self.assertEqual(answers(WRITE + following(b"")), [125, 0, *written(b""), 1, -1])
 
     def test_counts_stand_before_the_answers(self):
         self.assertEqual(
@@ -62,7 +104,7 @@ class TestList(unittest.TestCase):
     def test_prints_nothing(self):
         printed = io.StringIO()
         with contextlib.redirect_stdout(printed), contextlib.redirect_stderr(printed):
-            answers(feed(TREE) + STATE + feed(b"x"))
+            answers(TEN)
         self.assertEqual(printed.getvalue(), "")
 
     def test_longest_lists(self):

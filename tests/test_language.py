@@ -151,6 +151,31 @@ class TestLanguage(unittest.TestCase):
                 self.assertRegex(name, r"\A([A-Za-z][A-Za-z0-9_]*|__init__)\Z")
                 self.assertNotIn(name, BUILT_IN, path)
 
+    def test_locals_are_not_called_like_imports_or_classes(self):
+        for path, tree in self.trees.items():
+            taken = {each.name for node in ast.walk(tree) if isinstance(node, ast.ImportFrom) for each in node.names}
+            taken |= {node.name for node in tree.body if isinstance(node, ast.ClassDef)}
+            for node in ast.walk(tree):
+                if isinstance(node, ast.FunctionDef):
+                    inner = [each.arg for each in node.args.args]
+                    inner += [each.id for each in ast.walk(node) if isinstance(each, ast.Name) and each.ctx.__class__ is ast.Store]
+                    self.assertEqual(taken & set(inner), set(), path)
+
+    def test_every_name_of_a_files_top_is_used(self):
+        used = {"answers"}
+        for tree in self.trees.values():
+            for node in ast.walk(tree):
+                if isinstance(node, ast.Name) and isinstance(node.ctx, ast.Load):
+                    used.add(node.id)
+        for path, tree in self.trees.items():
+            self.assertEqual(set(self.top_names(tree)) - used, set(), path)
+
+    def test_walked_at_once(self):
+        for path, text in self.texts.items():
+            for line in text.split("\n"):
+                if re.search(r"\b(zip|enumerate|reversed|range)\(|\.(items|keys|values)\(\)", line):
+                    self.assertRegex(line, r" in (zip|enumerate|reversed|range|[a-z_.]+\.(items|keys|values))\(", path)
+
     def test_own_methods_and_values(self):
         methods, values = methods_and_values(self.trees.values())
         self.assertEqual(methods & values, set())

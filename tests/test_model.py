@@ -8,7 +8,10 @@ import random
 import re
 import unittest
 
-from archives import DIRECTORY, FILE, LINK, STATE, ask, end, feed, item, kind, size
+from archives import (
+    DIRECTORY, FILE, LINK, STATE, WRITE, about, ask, ask_behind, end, feed, following, item, kind, names, read, same, size,
+    written,
+)
 
 PATH = re.compile(rb"(?!\.{1,2}(/|\Z))[^\0/]+(/(?!\.{1,2}(/|\Z))[^\0/]+)*\Z", re.DOTALL)
 ARCHIVE_END = b"TRAILER!!!"
@@ -167,6 +170,47 @@ class Model:
             return [-1 - what // 2]
         return [0, len(thing.data if what == 1 else thing)]
 
+    def read(self, path, start, most):
+        what, thing = self.tree.get(path, (0, None))
+        if what in (0, 2):
+            return [-1 - what // 2]
+        data = thing.data if what == 1 else thing
+        return [0] + [data[at] for at in range(len(data)) if at >= start and at - start < most]
+
+    def paths_with(self, thing):
+        return sorted(path for path in self.tree if self.tree[path][0] == 1 and self.tree[path][1] is thing)
+
+    def same(self, path, other):
+        what, thing = self.tree.get(path, (0, None))
+        return [0, int(what == 1 and other in self.paths_with(thing))]
+
+    def following(self, path):
+        later = [other for other in self.tree if other > path]
+        return [0, *min(later)] if later else [-1]
+
+    def names(self, path):
+        what, thing = self.tree.get(path, (0, None))
+        if what != 1:
+            return [-2] if what else [-1]
+        return [0] + [number for other in self.paths_with(thing) for number in [len(other), *other]]
+
+    def write(self):
+        archive = b""
+        files = []
+        for path in sorted(self.tree):
+            what, thing = self.tree[path]
+            if what == 1:
+                group = self.paths_with(thing)
+                if group[0] == path:
+                    files.append(thing)
+                serial = [each is thing for each in files].index(True) + 1
+                archive += item(path, FILE, thing.data if group[0] == path else b"", serial=serial, names=len(group))
+            elif what == 2:
+                archive += item(path, DIRECTORY, names=2)
+            else:
+                archive += item(path, LINK, thing)
+        return [0, *archive, *end(), 0, 0, 0]
+
 
 PATHS = [b"a", b"b", b"cc", b"ddd", b"a/a", b"a/b", b"a/ccc", b"eeee", b"f", b"g", b"."]
 MORE = [b"%d" % number for number in range(9)]
@@ -211,8 +255,30 @@ def random_stream(dice):
     return stream
 
 
+def last_state(stream):
+    return ask(feed(stream), STATE)[1]
+
+
+def random_questions(dice, model, count):
+    """Questions, and what the model answers to them."""
+    calls = []
+    expected = []
+    for _ in range(count):
+        path, other = (dice.choice(dice.choice([PATHS, MORE, ODD, sorted(model.tree) or [b""]])) for _ in range(2))
+        start, most = (dice.choice([0, 1, 3, 100, 255, 1000000]) for _ in range(2))
+        call, answer = dice.choice([
+            (kind(path), lambda: model.kind(path)), (size(path), lambda: model.size(path)),
+            (read(path, start, most), lambda: model.read(path, start, most)),
+            (same(path, other), lambda: model.same(path, other)), (names(path), lambda: model.names(path)),
+            (following(path), lambda: model.following(path)),
+        ])
+        calls.append(call)
+        expected.append(answer())
+    return calls, expected
+
+
 class TestModel(unittest.TestCase):
-    def check(self, *feeds):
+    def check(self, dice, *feeds):
         stream = b"".join(feeds)
         model = Model(stream)
         paths = [PATHS, MORE, ODD]
@@ -222,6 +288,9 @@ class TestModel(unittest.TestCase):
             told = ask(*[feed(part) for part in feeds], *calls)
             self.assertEqual(told[len(feeds):], expected, stream)
             self.assertEqual(told[len(feeds) - 1], [0, *model.fault])
+        calls, expected = random_questions(dice, model, 30)
+        told = ask(*[feed(part) for part in feeds], WRITE, *calls)
+        self.assertEqual(told[len(feeds):], [model.write(), *expected], stream)
         return model
 
     def test_random_streams(self):
@@ -232,11 +301,22 @@ class TestModel(unittest.TestCase):
             cuts = sorted(dice.randrange(len(stream) + 1) for _ in range(dice.randrange(4)))
             borders = [0, *cuts, len(stream)]
             feeds = [stream[first:second] for first, second in zip(borders, borders[1:])]
-            code = self.check(*feeds).fault[0]
+            code = self.check(dice, *feeds).fault[0]
             codes[code] = codes.get(code, 0) + 1
         # The streams are worth something only if they come to every end.
         for code in range(7):
             self.assertGreater(codes.get(code, 0), 8, codes)
+
+    def test_every_random_tree_comes_back(self):
+        dice = random.Random(22)
+        for _ in range(60):
+            stream = random_stream(dice)
+            model = Model(stream)
+            back = written(stream)
+            self.assertEqual(last_state(back), [0, 0, len(back), 1, *model.state()[4:]])
+            self.assertEqual(written(back), back)
+            calls = about(dice.sample(sorted(model.tree), min(6, len(model.tree))) + [dice.choice(ODD)])
+            self.assertEqual(ask_behind([feed(back)], calls), ask_behind([feed(stream)], calls))
 
     def test_every_prefix_of_random_streams(self):
         dice = random.Random(21)
@@ -244,7 +324,7 @@ class TestModel(unittest.TestCase):
             stream = random_stream(dice)[:1500]
             for cut in range(len(stream) + 1):
                 model = Model(stream[:cut])
-                self.assertEqual(ask(feed(stream[:cut]), STATE)[1], model.state())
+                self.assertEqual(ask(feed(stream[:cut]), STATE, WRITE)[1:], [model.state(), model.write()])
 
 
 if __name__ == "__main__":
